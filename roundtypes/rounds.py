@@ -9,6 +9,17 @@ def is_kind(row, most):
     return 1 <= len(row) <= most and row[0] == 0 and sorted(row) == list(range(len(row)))
 
 
+def kinds_of(steps):
+    """All kinds of so many steps, as tuples, in order."""
+    rows = [(0,)]
+    for length in range(1, steps):
+        longer = []
+        for row in rows:
+            longer.extend([row + (number,) for number in range(1, steps) if number not in row])
+        rows = longer
+    return rows
+
+
 def begun_at_least(row):
     """The same row, as it goes round, begun with its least number."""
     at = row.index(min(row))

@@ -1,13 +1,15 @@
 """The calls on one object that holds a kind, and what they answer."""
 
-from roundtypes.rounds import doubled, is_kind, kinds_brought, line_of, turned
+from roundtypes.rounds import doubled, is_kind, kinds_brought, kinds_of, line_of, turned
 
 NOTHING_TAKEN = -11
 NOT_AS_TOLD = -22
 TOO_MANY = -28
+NO_MORE = -33
 
 MOST_TAKEN = 7
 MOST_BROUGHT = 6
+MOST_COMPARED = 5
 MOST_DOUBLED = 3
 
 TAKE = 0
@@ -16,6 +18,11 @@ TURN = 2
 DOUBLE = 3
 BRINGS = 4
 TYPES = 5
+NTH = 6
+STEPS = 7
+ALONE = 8
+BY = 9
+FIRST = 10
 
 # How many whole numbers stand behind each call's own number, from take to show.
 NUMBERS = (0, 0, 0, 0, 0, 1, 2, 0, 0, 1, 1, 0)
@@ -37,32 +44,77 @@ class Holder:
     def line(self):
         return [len(self.kind)] + line_of(self.kind)
 
+    def show(self):
+        return [len(self.kind)] + self.kind
+
     def turn(self):
         self.kind = turned(self.kind)
-        return [len(self.kind)] + self.kind
+        return self.show()
 
     def double(self):
         if len(self.kind) > MOST_DOUBLED:
             return [TOO_MANY]
         self.kind = doubled(self.kind)
-        return [len(self.kind)] + self.kind
+        return self.show()
 
     def brings(self, row):
         if not is_kind(row, MOST_BROUGHT):
             return [NOT_AS_TOLD]
-        return [1 if tuple(row) in self.brought(len(row)) else 0]
+        return [1 if tuple(row) in self.brought(self.kind, len(row)) else 0]
 
     def types(self, steps):
         if not 1 <= steps <= MOST_BROUGHT:
             return [NOT_AS_TOLD]
-        return [len(self.brought(steps))]
+        return [len(self.brought(self.kind, steps))]
 
-    def brought(self, steps):
-        """The kinds of so many steps that the held kind brings, in order."""
+    def nth(self, steps, before):
+        if not 1 <= steps <= MOST_BROUGHT:
+            return [NOT_AS_TOLD]
+        kinds = self.brought(self.kind, steps)
+        if len(kinds) <= before:
+            return [NO_MORE]
+        return [steps] + list(kinds[before])
+
+    def steps(self):
+        together = 0
+        worth = 1
+        for steps in range(1, MOST_BROUGHT + 1):
+            if len(self.brought(self.kind, steps)) > 0:
+                together = together + worth
+            worth = 2 * worth
+        return [together]
+
+    def alone(self):
+        if len(self.kind) > MOST_BROUGHT:
+            return [TOO_MANY]
+        alike = len(self.brought(self.kind, len(self.kind)))
+        return [1 if alike == 1 else 0, alike]
+
+    def by(self, steps):
+        if not 1 <= steps <= MOST_COMPARED:
+            return [NOT_AS_TOLD]
+        held = tuple(self.kind)
+        if len(held) > MOST_COMPARED:
+            return [TOO_MANY]
+        bringing = [kind for kind in kinds_of(steps) if held in self.brought(kind, len(held))]
+        if len(bringing) == 0:
+            return [0]
+        return [len(bringing)] + list(bringing[0])
+
+    def first(self, steps):
+        if not 1 <= steps <= MOST_COMPARED:
+            return [NOT_AS_TOLD]
+        kinds = kinds_of(steps)
+        # Each brings itself, so one that brings a single kind of its steps brings no other.
+        least = [kind for kind in kinds if len(self.brought(kind, steps)) == 1]
+        return [len(least), len(kinds)]
+
+    def brought(self, kind, steps):
+        """The kinds of so many steps that a kind brings, in order."""
         # Finding them is the one long work, and calls often ask for the same ones again.
-        key = (tuple(self.kind), steps)
+        key = (tuple(kind), steps)
         if key not in self.known:
-            self.known[key] = kinds_brought(self.kind, steps)
+            self.known[key] = kinds_brought(kind, steps)
         return self.known[key]
 
 
@@ -82,7 +134,18 @@ def answer_of(holder, call, numbers, row):
         return holder.brings(row)
     if call == TYPES:
         return holder.types(numbers[0])
-    raise NotImplementedError("this call is not there yet")
+    if call == NTH:
+        return holder.nth(numbers[0], numbers[1])
+    if call == STEPS:
+        return holder.steps()
+    if call == ALONE:
+        return holder.alone()
+    if call == BY:
+        return holder.by(numbers[0])
+    if call == FIRST:
+        return holder.first(numbers[0])
+    # There are twelve calls: what is left is show.
+    return holder.show()
 
 
 def calls_apart(calls):

@@ -1,6 +1,7 @@
 """What the tests share: calls written out, answers taken apart, and the document's words done slowly."""
 
 from fractions import Fraction
+from functools import lru_cache
 from itertools import permutations
 from math import ceil, floor
 
@@ -9,12 +10,19 @@ from roundtypes.types import answers
 NOTHING_TAKEN = [-11]
 NOT_AS_TOLD = [-22]
 TOO_MANY = [-28]
+NO_MORE = [-33]
 
 LARGEST = 4294967295
 
 LINE = [1]
 TURN = [2]
 DOUBLE = [3]
+STEPS = [7]
+ALONE = [8]
+SHOW = [11]
+
+SIX = range(1, 7)
+FIVE = range(1, 6)
 
 
 def take(row):
@@ -27,6 +35,18 @@ def brings(row):
 
 def types(j):
     return [5, j]
+
+
+def nth(j, i):
+    return [6, j, i]
+
+
+def by(k):
+    return [9, k]
+
+
+def first(k):
+    return [10, k]
 
 
 def ask(*calls):
@@ -117,3 +137,9 @@ class SlowLine:
                 ranks = [sum(other < one for other in places) for one in places]
                 found.add(tuple(ranks[least:] + ranks[:least]))
         return found
+
+
+@lru_cache(maxsize=None)
+def slow_kinds(kind, steps):
+    """The types of so many steps that the slow line of a type has rounds of, in order."""
+    return sorted(SlowLine(kind).kinds(steps))

@@ -3,11 +3,9 @@
 import unittest
 
 from support import (
-    DOUBLE, LARGEST, LINE, NOT_AS_TOLD, SlowLine,
-    all_kinds, ask, brings, brought_by, doubled, kinds_up_to, take, turned, types,
+    DOUBLE, LARGEST, LINE, NOT_AS_TOLD, SIX,
+    all_kinds, ask, brings, brought_by, doubled, kinds_up_to, slow_kinds, take, turned, types,
 )
-
-SIX = range(1, 7)
 
 
 def counts(kind):
@@ -95,7 +93,7 @@ class Edges(unittest.TestCase):
             brought = brought_by(doubled(kind), kinds_up_to(6))
             self.assertIn(kind, brought)
             self.assertIn(doubled(kind), brought)
-            self.assertEqual(SlowLine(doubled(kind)).kinds(6), {row for row in brought if len(row) == 6})
+            self.assertEqual(set(slow_kinds(doubled(kind), 6)), {row for row in brought if len(row) == 6})
 
     def test_one_doubled_and_doubled(self):
         told = ask(take([0]), DOUBLE, DOUBLE, *[types(j) for j in SIX], brings([0, 2, 1, 3]), brings([0, 3, 1, 2]))
@@ -118,8 +116,7 @@ class Edges(unittest.TestCase):
 
 class AgainstTheSlowLine(unittest.TestCase):
     def check(self, kind):
-        slow = SlowLine(kind)
-        expected = [slow.kinds(j) for j in SIX]
+        expected = [slow_kinds(kind, j) for j in SIX]
         self.assertEqual(brought_by(kind, kinds_up_to(6)), set().union(*expected), kind)
         self.assertEqual(counts(kind), [len(kinds) for kinds in expected], kind)
 

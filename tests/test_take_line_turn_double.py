@@ -1,10 +1,10 @@
-"""Promise 1 of take, line, turn and double."""
+"""Promise 1: take, line, turn, double and show; and that nothing is answered before a take."""
 
 import unittest
 
 from support import (
-    DOUBLE, LARGEST, LINE, NOT_AS_TOLD, NOTHING_TAKEN, TOO_MANY, TURN,
-    all_kinds, ask, brings, doubled, kinds_up_to, take, turned, types,
+    ALONE, DOUBLE, LARGEST, LINE, NOT_AS_TOLD, NOTHING_TAKEN, SHOW, STEPS, TOO_MANY, TURN,
+    all_kinds, ask, brings, by, doubled, first, kinds_up_to, nth, take, turned, types,
 )
 
 NO_KINDS = [
@@ -53,7 +53,8 @@ class Take(unittest.TestCase):
 class NothingTaken(unittest.TestCase):
     OTHERS = [
         LINE, TURN, DOUBLE, brings([0]), brings([]), brings(range(7)), types(1), types(0), types(LARGEST),
-        [6, 1, 0], [7], [8], [9, 1], [9, 0], [10, 1], [10, 6], [11],
+        nth(1, 0), nth(1, 1), nth(0, 0), nth(7, LARGEST), nth(LARGEST, LARGEST), STEPS, ALONE,
+        by(1), by(0), by(6), by(LARGEST), first(1), first(0), first(6), first(LARGEST), SHOW,
     ]
 
     def test_all_others_are_refused_ahead_of_all_else(self):
@@ -97,6 +98,35 @@ class Line(unittest.TestCase):
 
     def test_changes_nothing(self):
         self.assertEqual(ask(take([0, 2, 1]), LINE, LINE)[1:], [[3, 2, 0, 1]] * 2)
+
+
+class Show(unittest.TestCase):
+    def test_shows_each_type_as_it_was_taken(self):
+        for kind in kinds_up_to(7):
+            self.assertEqual(ask(take(kind), SHOW), [[len(kind)], [len(kind)] + list(kind)])
+
+    def test_sees_take_turn_and_double(self):
+        told = ask(
+            take([0]), SHOW, DOUBLE, SHOW, take([0, 1, 2]), SHOW, TURN, SHOW, DOUBLE, SHOW, TURN, SHOW,
+            take([0, 1, 3, 2]), SHOW, TURN, SHOW,
+        )
+        self.assertEqual(told[1::2], [
+            [1, 0], [2, 0, 1], [3, 0, 1, 2], [3, 0, 2, 1], [6, 0, 4, 2, 1, 5, 3], [6, 0, 2, 5, 1, 3, 4],
+            [4, 0, 1, 3, 2], [4, 0, 1, 3, 2],
+        ])
+
+    def test_is_the_same_behind_what_is_refused(self):
+        for kind in ([0], [0, 2, 1], [0, 3, 1, 2], [0, 4, 2, 1, 3], range(6), range(7)):
+            refused = [
+                take([]), take([0, 2]), take(range(8)), brings([1]), brings(range(7)), types(0), types(7),
+                nth(0, 0), nth(7, 0), nth(1, 1), nth(6, LARGEST), by(0), by(6), first(0), first(6),
+            ]
+            refused += [DOUBLE] * (len(kind) > 3) + [by(1)] * (len(kind) > 5) + [ALONE] * (len(kind) > 6)
+            for call in refused:
+                before, told, after = ask(take(kind), SHOW, call, SHOW)[1:]
+                self.assertEqual((len(told), told[0] < 0), (1, True), call)
+                self.assertEqual(before, [len(kind)] + list(kind))
+                self.assertEqual(after, before, call)
 
 
 class Turn(unittest.TestCase):
